@@ -1,0 +1,1 @@
+"""Sureplace: where a moving receiver surely is, although some sources lie."""

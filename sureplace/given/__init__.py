@@ -1,0 +1,1 @@
+"""What is given: names, settings, readings and questions."""

@@ -1,0 +1,1 @@
+"""The judge of papers: steps of blame and trees."""

@@ -1,0 +1,1 @@
+"""The kinds of readings: their spans, and what readings exclude."""

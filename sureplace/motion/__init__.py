@@ -1,0 +1,1 @@
+"""How far the receiver and its clock can go."""

@@ -1,0 +1,1 @@
+"""Roots, boxes and the bounds of numbers."""

@@ -1,0 +1,13 @@
+"""The bounds of numbers that are given."""
+
+LIMIT = 10 ** 12
+
+
+def all_within(numbers, low, high):
+    """Tell whether each number is from low to high."""
+    return all([low <= number <= high for number in numbers])
+
+
+def sides_within(sides, limit):
+    """Tell whether each side goes upwards, and from -limit to limit at most."""
+    return all([-limit <= low <= high <= limit for low, high in sides])
