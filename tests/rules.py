@@ -54,6 +54,10 @@ DECORATORS = ("property", "staticmethod", "classmethod")
 AT_ONCE = ("zip", "enumerate", "reversed", "range")
 TAKERS = {"list", "tuple", "dict", "sorted", "sum", "any", "all", "enumerate", "zip", "min", "max", "len", "reversed",
           "map"}
+# What may iterate over a generator, in a package with a class that compares.
+ITERATE = {"list", "tuple", "dict", "enumerate", "zip"}
+MODIFY = {"append", "clear", "extend", "insert", "pop", "remove", "reverse", "setdefault", "sort", "update", "add",
+          "discard"}
 CATCHES = {"KeyError", "ZeroDivisionError", "ValueError", "LookupError", "IndexError", "StopIteration"}
 PYTHONS_ERRORS = {name for name, worth in vars(builtins).items()
                   if isinstance(worth, type) and issubclass(worth, BaseException)}
@@ -109,6 +113,9 @@ class Package:
         self.classes = {node.name for node in classes}
         self.bases = {node.name: [base.id for base in node.bases if isinstance(base, ast.Name)] for node in classes}
         self.methods = {node.name for one in classes for node in one.body if isinstance(node, ast.FunctionDef)}
+        functions = [node for file in self.files for node in file.of(ast.FunctionDef)]
+        self.names = [node.name for node in functions]
+        self.generators = {node.name for node in functions if is_generator(node)}
         self.attributes = {node.attr for file in self.files for node in file.of(ast.Attribute)
                            if isinstance(node.ctx, ast.Store)}
 
@@ -406,7 +413,7 @@ def check_loop(loop):
     for node in [part for row in loop.body for part in ast.walk(row)]:
         target = None
         if isinstance(node, ast.Call) and isinstance(node.func, ast.Attribute):
-            if node.func.attr in ("append", "clear", "extend", "insert", "pop", "remove", "reverse", "update"):
+            if node.func.attr in MODIFY:
                 target = node.func.value
         if isinstance(node, ast.Subscript) and isinstance(node.ctx, (ast.Store, ast.Del)):
             target = node.value
@@ -453,8 +460,78 @@ def check_strings(file, package):
             yield "L27", token.start[0], "an escape"
 
 
+def is_generator(node):
+    """Is it a function that yields? Functions inside it do not count."""
+    return isinstance(node, ast.FunctionDef) and any(
+        isinstance(part, (ast.Yield, ast.YieldFrom)) for part in ast.walk(node))
+
+
+def iterated_at_once(file, node):
+    """Is the call iterated by what stands around it?"""
+    above = file.parent(node)
+    if isinstance(above, (ast.For, ast.comprehension)):
+        return above.iter is node
+    return isinstance(above, ast.YieldFrom) or (isinstance(above, ast.Call) and name_of(above.func) in ITERATE)
+
+
+def check_generators(file, package):
+    """L23: generators are plain, have names of their own, and are iterated at once."""
+    for node in [node for node in file.of(ast.FunctionDef) if is_generator(node)]:
+        inside = list(ast.walk(node))
+        if node.decorator_list or node.name in DOUBLE or node.name in METHODS:
+            yield "L23", node.lineno, f"{node.name} is not to be a generator"
+        if package.names.count(node.name) > 1 or node.name in package.attributes:
+            yield "L23", node.lineno, f"something else is called {node.name}"
+        if any(isinstance(part, ast.Return) and part.value for part in inside):
+            yield "L23", node.lineno, "a generator that returns a value"
+        for part in inside:
+            if isinstance(part, (ast.Yield, ast.YieldFrom)) and not isinstance(file.parent(part), ast.Expr):
+                yield "L23", part.lineno, "a yield that is no statement"
+            if isinstance(part, (ast.Try, ast.With)):
+                yield "L23", part.lineno, "a try or a with in a generator"
+    for node in file.of(ast.Name, ast.Attribute):
+        name = node.id if isinstance(node, ast.Name) else node.attr
+        if name in package.generators and isinstance(node.ctx, ast.Load):
+            above = file.parent(node)
+            if not (isinstance(above, ast.Call) and above.func is node and iterated_at_once(file, above)):
+                yield "L23", node.lineno, f"{name} is not iterated at once"
+
+
+def check_properties(file, package):
+    """L5 and L28: properties, __eq__ and __len__ change nothing; __iter__ is one statement."""
+    for node in file.of(ast.FunctionDef):
+        decorators = [name_of(decorator) for decorator in node.decorator_list]
+        if "property" in decorators:
+            if len(node.args.args) != 1 or node.name in METHODS or package.names.count(node.name) > 1:
+                yield "L5", node.lineno, f"the property {node.name}"
+        if "property" in decorators or node.name in ("__eq__", "__len__"):
+            for part in ast.walk(node):
+                stored = isinstance(part, (ast.Attribute, ast.Subscript)) and not isinstance(part.ctx, ast.Load)
+                called = isinstance(part, ast.Call) and isinstance(part.func, ast.Attribute)
+                if stored or (called and part.func.attr in MODIFY):
+                    yield "L5", part.lineno, f"{node.name} changes something"
+        if node.name == "__iter__":
+            rows = [row for row in node.body if not (isinstance(row, ast.Expr) and file.is_docstring(row.value))]
+            if not re.fullmatch(r"return iter\(self(\.\w+)+\)", "; ".join(ast.unparse(row) for row in rows)):
+                yield "L5", node.lineno, "an __iter__ that is not one statement"
+
+
+def check_attributes(file, package):
+    """L18: an attribute that is read is assigned by some class; L24: where a set may stand."""
+    known = package.attributes | package.methods | METHODS | {"setter", "maketrans"} | DOUBLE
+    for node in file.of(ast.Attribute):
+        if isinstance(node.ctx, ast.Load) and node.attr not in known | {"__class__", "__name__"}:
+            yield "L18", node.lineno, f"no class assigns the attribute {node.attr}"
+    for node in file.of(ast.Call):
+        if name_of(node.func) == "set":
+            above = file.parent(node)
+            if not (isinstance(above, (ast.Compare, ast.Assign, ast.BinOp))
+                    or (isinstance(above, ast.Call) and name_of(above.func) in ("sorted", "len"))):
+                yield "L24", node.lineno, "a set"
+
+
 CHECKS = (check_text, check_imports, check_module, check_functions, check_classes, check_statements, check_names,
-          check_calls, check_errors, check_strings)
+          check_calls, check_errors, check_strings, check_generators, check_properties, check_attributes)
 
 
 def broken(texts):

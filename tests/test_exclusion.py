@@ -5,7 +5,8 @@ import unittest
 
 from sureplace.kinds.exclusion import carried, clock_rate, excludes, moved, rate
 from sureplace.kinds.spans import span
-from tests.helpers import KINDS, a_reading, a_setting, any_kind, dice, value_within
+from tests.helpers import KINDS, a_reading, a_setting, any_kind, dice
+from tests.worlds import a_reading_of, a_world
 
 ORIGIN = ((0, 0), (0, 0), (0, 0))
 
@@ -100,42 +101,6 @@ class Excludes(unittest.TestCase):
         before = copy.deepcopy([setting, reading, box])
         excludes(setting, reading, 3, box), carried(setting, reading, 3)
         self.assertEqual([setting, reading, box], before)
-
-
-# Steps in a plane that are whole numbers long.
-STEPS = ((0, 0), (0, 1), (1, 0), (0, -2), (3, 4), (-4, 3), (-3, -4), (5, 0), (-6, 8), (8, -6), (0, 10))
-
-
-def a_world(chance, setting, ticks):
-    """A place and an offset for each tick; between the ticks the way is straight."""
-    place, offset, world = (chance.randint(-9, 9), chance.randint(-9, 9)), chance.randint(-5, 5), []
-    for _ in range(ticks):
-        world.append((place, offset))
-        step = chance.choice([step for step in STEPS if sum(n * n for n in step) <= setting.speed ** 2])
-        place = (place[0] + step[0], place[1] + step[1])
-        offset += chance.randint(-setting.drift, setting.drift)
-    return world
-
-
-def shifted(chance, part, near):
-    """A point, or a tuple of boxes, with one shift of at most near."""
-    x, y = chance.choice([step for step in STEPS if sum(n * n for n in step) <= near ** 2])
-    if isinstance(part[0], int):
-        return (part[0] + x, part[1] + y)
-    return tuple(tuple((low + by, high + by) for (low, high), by in zip(box, (x, y))) for box in part)
-
-
-def a_reading_of(chance, world):
-    """A reading that the world keeps: its bounds hold at a time within late, for shifted points."""
-    kind = any_kind(chance, 2)
-    late, near = chance.randint(0, 3), chance.randint(0, 6)
-    moment = chance.randrange(len(world))
-    time = min(len(world) - 1, max(0, moment + chance.randint(-late, late)))
-    place, offset = world[time]
-    true = kind if kind[0] == "side" else kind[:1] + tuple(shifted(chance, part, near) for part in kind[1:])
-    low = max(n for n in range(-300, 300) if value_within(true, place, offset, n, 10 ** 6))
-    high = min(n for n in range(-300, 300) if value_within(true, place, offset, -10 ** 6, n))
-    return a_reading(moment=moment, kind=kind, low=low, high=high, late=late, near=near)
 
 
 class Worlds(unittest.TestCase):

@@ -4,6 +4,7 @@ import ast
 import importlib
 import inspect
 import pathlib
+import re
 import unittest
 
 TOP = pathlib.Path(__file__).resolve().parent.parent
@@ -39,6 +40,52 @@ INTERFACE = {
     "sureplace.judge.blame": {"blames_right": "(used, steps, *, honest=(), liars)"},
     "sureplace.judge.trees": {
         "Held": "(moment, cover, used)", "judge_tree": "(setting, readings, held, keep, moment, tree, box)"},
+    "sureplace.judge.papers": {
+        "Known": "(moment, cover, tree)", "Paper": "(known, trees, steps)",
+        "root_at": "(setting, question, moment)", "judge_known": "(setting, question, readings, known)",
+        "used_by": "(setting, question, readings, held, trees, box)",
+        "judge_paper": "(setting, question, readings, paper, box, *, honest=())"},
+    "sureplace.liars.meetings": {
+        "make_steps": "(used, *, honest=(), liars)", "meetings": "(used, *, honest=(), liars)",
+        "least_sets": "(used, *, honest=(), liars)", "fewest": "(sets)", "surely": "(sets)"},
+    "sureplace.liars.makers": {
+        "Suspicion": "(used, sets)", "make_paper": "(setting, question, readings, known, trees, box, *, honest=())",
+        "suspicion": "(setting, question, readings, known, trees, *, honest=())"},
+    "sureplace.witness.ways": {"Witness": "(liars, points)", "ascend": "(points)", "way_at": "(points, moment)"},
+    "sureplace.witness.widening": {
+        "cell_radius": "(setting, share)", "stretch": "(setting, question, readings)",
+        "margin": "(setting, question, reading)"},
+    "sureplace.witness.judging": {"judge_witness": "(setting, question, readings, witness, box)"},
+    "sureplace.search.plans": {"Plan": "(moments, *, grain, most, without)"},
+    "sureplace.search.covers": {"Row": None, "know": "(setting, question, readings, plan)"},
+    "sureplace.search.searching": {
+        "Told": "(cell, box, verdict, *, trees=(), steps=(), witness=None, names=())", "Found": None,
+        "search": "(setting, question, readings, plan, steps)"},
+    "sureplace.ledger.ledger": {"Ledger": "()", "restored": "(now, floor, pins, entries)"},
+    "sureplace.standing.watch": {"Watch": "(question)"},
+    "sureplace.standing.receiver": {"Write": None, "Receiver": "(setting)"},
+}
+
+# Methods that the interface lists; None stands for a property.
+METHODS = {
+    ("sureplace.search.searching", "Found"): {"__iter__": "(self)"},
+    ("sureplace.ledger.ledger", "Ledger"): {
+        "pins": None, "kept": None, "put": "(self, reading)", "correct": "(self, number, reading)",
+        "withdraw": "(self, number)", "pin": "(self)", "unpin": "(self, moment)", "raise_floor": "(self, moment)",
+        "keeps": "(self, moment)", "readings": "(self, moment)", "entries": "(self)"},
+    ("sureplace.standing.watch", "Watch"): {
+        "things": "(self)", "learn": "(self, setting, readings, thing)",
+        "refute": "(self, setting, readings, address, trees, steps)",
+        "reach": "(self, setting, readings, address, witness)", "turn": "(self, setting, readings)",
+        "cells": "(self)", "paper": "(self, address)", "witness": "(self, address)"},
+    ("sureplace.standing.receiver", "Receiver"): {
+        "questions": None, "next_number": None, "there": "(self)", "put": "(self, reading)",
+        "correct": "(self, number, reading)", "withdraw": "(self, number)", "pin": "(self)",
+        "unpin": "(self, moment)", "raise_floor": "(self, moment)", "ask": "(self, question)", "end": "(self, number)",
+        "learn": "(self, number, thing)", "refute": "(self, number, address, trees, steps)",
+        "reach": "(self, number, address, witness)", "question": "(self, number)", "known": "(self, number)",
+        "verdicts": "(self, number)", "paper": "(self, number, address)", "witness": "(self, number, address)",
+        "watch": "(self, number)"},
 }
 
 
@@ -58,6 +105,23 @@ class Interface(unittest.TestCase):
             defined = [node.name for node in tree.body if isinstance(node, (ast.FunctionDef, ast.ClassDef))]
             for name in names:
                 self.assertEqual(defined.count(name), 1, (module, name))
+
+    def test_methods_stand_in_the_class_itself(self):
+        for (module, name), methods in METHODS.items():
+            own = vars(getattr(importlib.import_module(module), name))
+            for method, arguments in methods.items():
+                self.assertIn(method, own, (name, method))
+                if arguments is None:
+                    self.assertIsInstance(own[method], property, (name, method))
+                else:
+                    self.assertEqual(str(inspect.signature(own[method])), arguments, (name, method))
+
+    def test_no_file_of_the_interface_is_forgotten_here(self):
+        document = TOP.parent / "shared" / "DOC.md"
+        if document.is_file():
+            listed = re.findall(r"^## (sureplace/\S+)\.py$", document.read_text(encoding="utf-8"), re.MULTILINE)
+            missing = [path for path in listed if path.replace("/", ".") not in INTERFACE]
+            self.assertFalse([path for path in missing if (TOP / f"{path}.py").is_file()])
 
     def test_tests_stand_beside_the_package(self):
         self.assertEqual([path for path in (TOP / "sureplace").rglob("*") if "test" in path.name], [])

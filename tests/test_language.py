@@ -10,6 +10,9 @@ TOP = pathlib.Path(__file__).resolve().parent.parent
 CLASS = "class Box:\n    def __init__(self, n):\n        self.n = n\n"
 EQUAL = CLASS + "    def __eq__(self, other):\n        return isinstance(other, Box) and self.n == other.n\n\n"
 
+MANY = "def each(xs):\n    for x in xs:\n        yield x\n\n\n"
+SHELF = "class Shelf:\n    def __init__(self):\n        self.rows = []\n\n"
+
 BAD = (
     ("L2", "import math\n"),
     ("L2", "from os import path\n"),
@@ -76,12 +79,33 @@ BAD = (
     ("L27", "X = '100%'\n"),
     ("L27", "X = 'a\\x41'\n"),
     ("L28", "class Box:\n    def __init__(self, n):\n        self.n = n\n        return None\n"),
+    ("L23", MANY + "def f(xs):\n    return each(xs)\n"),
+    ("L23", MANY + "def f(xs):\n    return 1 in each(xs)\n"),
+    ("L23", MANY + "def f(xs):\n    return len(each(xs))\n"),
+    ("L23", MANY + "def f(xs):\n    return [each, xs]\n"),
+    ("L23", MANY + "class Box:\n    def each(self):\n        return 1\n"),
+    ("L23", MANY + "class Box:\n    def __init__(self, n):\n        self.each = n\n"),
+    ("L23", "def f(xs):\n    yield 1\n    return xs\n"),
+    ("L23", "def f(xs):\n    x = yield 1\n"),
+    ("L23", "def items(xs):\n    yield xs\n"),
+    ("L23", "def f(xs):\n    try:\n        yield xs[1]\n    except KeyError:\n        pass\n"),
+    ("L5", SHELF + "    def __iter__(self):\n        for row in self.rows:\n            if row:\n                yield row\n"),
+    ("L5", SHELF + "    def __iter__(self):\n        rows = self.rows\n        return iter(rows)\n"),
+    ("L5", SHELF + "    @property\n    def many(self):\n        self.rows = []\n        return 1\n"),
+    ("L5", SHELF + "    @property\n    def many(self):\n        return self.rows.pop()\n"),
+    ("L5", SHELF + "    @property\n    def title(self):\n        return 1\n"),
+    ("L18", "def f(x):\n    return x.nothing\n"),
+    ("L24", "def f(xs):\n    return set(xs)\n"),
+    ("L24", "def f(xs):\n    for x in set(xs):\n        return x\n"),
 )
 
 GOOD = (
     "from sureplace.other import half\n\nLIMIT = 10 ** 12\n\n\ndef f(x, *, y=(), z=LIMIT):\n"
     "    return [half(n) for n, m in zip(x, y) if n is not None and m < z]\n",
     EQUAL + "\ndef f(xs):\n    return any([x < 2 for x in xs])\n",
+    MANY + "def f(xs):\n    for x in each(xs):\n        return [y for y in each(xs)] + list(each(xs))\n",
+    SHELF + "    def __iter__(self):\n        return iter(self.rows)\n\n    @property\n    def many(self):\n"
+    "        return len(set(self.rows))\n",
 )
 
 

@@ -1,4 +1,4 @@
-"""That the example in README.md tells the truth."""
+"""That the examples in README.md tell the truth."""
 
 import pathlib
 import re
@@ -7,18 +7,23 @@ import unittest
 README = pathlib.Path(__file__).resolve().parent.parent / "README.md"
 
 
-class Example(unittest.TestCase):
+class Examples(unittest.TestCase):
     def test_the_lines_with_a_result(self):
-        code = re.search(r"```python\n(.*?)```", README.read_text(encoding="utf-8"), re.DOTALL).group(1)
+        # The second example goes on with the names of the first one.
         names, checked = {}, 0
-        exec(code, names)
-        for line in code.splitlines():
-            call, told = line.partition("  #")[::2]
-            if told:
-                due = re.match(r"\s*(True|False|\[.*\])", told).group(1)
+        for code in re.findall(r"```python\n(.*?)```", README.read_text(encoding="utf-8"), re.DOTALL):
+            before = ""
+            for line in code.splitlines():
+                call, told = line.partition("  #")[::2]
+                if not told:
+                    before += line + "\n"
+                    continue
+                exec(before, names)
+                before = ""
+                due = re.match(r"\s*(True|False|\[.*\]|\(.*\))", told).group(1)
                 self.assertEqual(eval(call, names), eval(due), line)
                 checked += 1
-        self.assertEqual(checked, 3)
+        self.assertEqual(checked, 6)
 
 
 if __name__ == "__main__":

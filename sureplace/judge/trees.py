@@ -20,12 +20,26 @@ class Held:
                 and self.used == other.used)
 
 
+def beyond(setting, thing, moment, box):
+    """Tell whether the box is farther from each box of the held thing than one can go."""
+    ticks = abs(moment - thing.moment)
+    for other in thing.cover:
+        if not farther(setting, ticks, box, other):
+            return False
+    return True
+
+
+def by_number(readings):
+    """A dict of the readings by their numbers."""
+    return {number: reading for number, reading in readings}
+
+
 class Case:
     """By what trees of a moment are judged."""
 
-    def __init__(self, setting, readings, held, keep, moment):
+    def __init__(self, setting, table, held, keep, moment):
         self.setting = setting
-        self.table = {number: reading for number, reading in readings}
+        self.table = table
         self.held = held
         self.keep = keep
         self.moment = moment
@@ -42,10 +56,7 @@ class Case:
         if not 0 <= place < len(self.held):
             return None
         thing = self.held[place]
-        ticks = abs(self.moment - thing.moment)
-        if all([farther(self.setting, ticks, box, other) for other in thing.cover]):
-            return thing.used
-        return None
+        return thing.used if beyond(self.setting, thing, self.moment, box) else None
 
     def by_kept(self, place, box):
         """No sources, if the box is inside the kept box."""
@@ -90,5 +101,5 @@ class Case:
 
 def judge_tree(setting, readings, held, keep, moment, tree, box):
     """The sources on which the tree rests; None if it does not show that one was in kept boxes alone."""
-    case = Case(setting, readings, held, keep, moment)
+    case = Case(setting, by_number(readings), held, keep, moment)
     return case.judged(tree, box)

@@ -35,8 +35,19 @@ def carried(setting, reading, moment):
     return moved(kind) * reading.near + far + off
 
 
+def allowed(setting, reading, moment):
+    """Between which numbers the value is at the moment, in a world that keeps the reading."""
+    more = carried(setting, reading, moment)
+    return reading.low - more, reading.high + more
+
+
+def misses(kind, bounds, box):
+    """Tell whether the span of the kind over the box has nothing between the bounds."""
+    low, high = bounds
+    least, greatest = span(kind, box)
+    return greatest < low or least > high
+
+
 def excludes(setting, reading, moment, box):
     """Tell whether no world that keeps the reading is in the box at the moment."""
-    least, greatest = span(reading.kind, box)
-    more = carried(setting, reading, moment)
-    return greatest + more < reading.low or least > reading.high + more
+    return misses(reading.kind, allowed(setting, reading, moment), box)

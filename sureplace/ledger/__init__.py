@@ -1,0 +1,1 @@
+"""The ledger: readings, and what they said at earlier times."""

@@ -1,0 +1,1 @@
+"""Who lies: makers of steps of blame and of papers."""

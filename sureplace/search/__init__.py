@@ -1,0 +1,1 @@
+"""Searching: known things, cells that are out, and witnesses, by fixed rules."""

@@ -1,0 +1,1 @@
+"""Witnesses: that the receiver can have been in a box."""
