@@ -64,6 +64,20 @@ INTERFACE = {
     "sureplace.ledger.ledger": {"Ledger": "()", "restored": "(now, floor, pins, entries)"},
     "sureplace.standing.watch": {"Watch": "(question)"},
     "sureplace.standing.receiver": {"Write": None, "Receiver": "(setting)"},
+    "sureplace.levels.levels": {
+        "level_above": "(place, boxes)", "level_below": "(place, moment, witnesses)"},
+    "sureplace.levels.sources": {
+        "Standing": "(must, cannot, lies, tells)",
+        "standing": "(setting, question, readings, source, *, must=None, cannot=None, lies=None, tells=None)"},
+    "sureplace.texts.words": {"is_integer": "(word)", "Words": "(text)"},
+    "sureplace.texts.saved": {"save": "(receiver)", "load": "(text)"},
+    "sureplace.tracks.layers": {
+        "Layer": "(moment, boxes)", "Pace": "(speed, drift, per)", "common": "(box, other)",
+        "narrowed": "(layer, box)"},
+    "sureplace.tracks.chains": {
+        "linked": "(pace, layer, other)", "alive": "(pace, layers)", "judge_chain": "(pace, layers, chain)",
+        "judge_barrier": "(pace, layers, marks)", "find": "(pace, layers)", "has_chain": "(pace, layers)",
+        "least_speed": "(pace, layers)"},
 }
 
 # Methods that the interface lists; None stands for a property.
@@ -86,6 +100,9 @@ METHODS = {
         "reach": "(self, number, address, witness)", "question": "(self, number)", "known": "(self, number)",
         "verdicts": "(self, number)", "paper": "(self, number, address)", "witness": "(self, number, address)",
         "watch": "(self, number)"},
+    ("sureplace.texts.words", "Words"): {
+        "ended": "(self)", "peek": "(self)", "word": "(self, words)",
+        "number": f"(self, low={-10 ** 18}, high={10 ** 18})", "length": "(self)", "name": "(self)"},
 }
 
 

@@ -9,7 +9,7 @@ README = pathlib.Path(__file__).resolve().parent.parent / "README.md"
 
 class Examples(unittest.TestCase):
     def test_the_lines_with_a_result(self):
-        # The second example goes on with the names of the first one.
+        # Each example goes on with the names of those before it.
         names, checked = {}, 0
         for code in re.findall(r"```python\n(.*?)```", README.read_text(encoding="utf-8"), re.DOTALL):
             before = ""
@@ -20,10 +20,10 @@ class Examples(unittest.TestCase):
                     continue
                 exec(before, names)
                 before = ""
-                due = re.match(r"\s*(True|False|\[.*\]|\(.*\))", told).group(1)
+                due = re.match(r"\s*(True|False|-?\d+|\[.*\]|\(.*\))", told).group(1)
                 self.assertEqual(eval(call, names), eval(due), line)
                 checked += 1
-        self.assertEqual(checked, 6)
+        self.assertEqual(checked, 11)
 
 
 if __name__ == "__main__":

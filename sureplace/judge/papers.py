@@ -62,12 +62,16 @@ class Bench:
                 return False
         return True
 
-    def accepts(self, trees, steps, box, honest=()):
-        """Tell whether a paper with these trees and steps is accepted, its things having been heard."""
+    def sources_of(self, trees, steps, box):
+        """For each tree that a step names the sources on which it rests; None for a tree that shows nothing."""
         case = Case(self.setting, self.table, self.held, (), self.question.moment)
         # What no step names plays no part, and there can be much of it.
         named = {tree: True for tree, following in steps}
-        used = [case.judged(tree, box) if place in named else None for place, tree in enumerate(trees)]
+        return [case.judged(tree, box) if place in named else None for place, tree in enumerate(trees)]
+
+    def accepts(self, trees, steps, box, honest=()):
+        """Tell whether a paper with these trees and steps is accepted, its things having been heard."""
+        used = self.sources_of(trees, steps, box)
         return blames_right(used, steps, honest=honest, liars=self.question.liars)
 
 

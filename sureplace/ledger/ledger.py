@@ -11,6 +11,12 @@ def _there_at(versions, moment):
     return None
 
 
+def was_kept(floor, pins, version):
+    """Tell whether the version was there at a moment from the floor on, or at a pinned one."""
+    born, died, _ = version
+    return died is None or died > floor or any([born <= moment < died for moment in pins])
+
+
 class Ledger:
     """Writes are numbered 1, 2, 3 and so on; the readings at a kept moment never change."""
 
@@ -39,14 +45,10 @@ class Ledger:
         born, _, reading = versions[-1]
         versions[-1] = (born, self.now, reading)
 
-    def _keeps_version(self, born, died):
-        """Tell whether the version was there at a kept moment."""
-        return died is None or died > self.floor or any([born <= moment < died for moment in self._pinned])
-
     def _drop(self):
         """Drop the versions that were there at no kept moment."""
         for number in list(self._versions):
-            versions = [version for version in self._versions[number] if self._keeps_version(version[0], version[1])]
+            versions = [version for version in self._versions[number] if was_kept(self.floor, self._pinned, version)]
             if versions:
                 self._versions[number] = versions
             else:

@@ -14,12 +14,16 @@ def slip(setting, ticks):
     return quotient_up(setting.drift * ticks, setting.per)
 
 
+def clocks_farther(setting, ticks, box, other):
+    """Tell whether the clocks of the boxes are farther apart than they can drift in some ticks."""
+    return setting.per * gap(box[-1], other[-1]) > setting.drift * ticks
+
+
 def farther(setting, ticks, box, other):
     """Tell whether the boxes are farther apart than one can go in some ticks."""
     # The speed itself is compared, as the reach is rounded.
     places = setting.per ** 2 * between(box[:-1], other[:-1])
-    clocks = setting.per * gap(box[-1], other[-1])
-    return places > (setting.speed * ticks) ** 2 or clocks > setting.drift * ticks
+    return places > (setting.speed * ticks) ** 2 or clocks_farther(setting, ticks, box, other)
 
 
 def widened(setting, ticks, box):

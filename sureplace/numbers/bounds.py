@@ -1,6 +1,8 @@
 """The bounds of numbers that are given."""
 
 LIMIT = 10 ** 12
+# For what is offered, and for what is read from texts.
+VAST = 10 ** 18
 
 
 def all_within(numbers, low, high):

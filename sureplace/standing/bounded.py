@@ -1,17 +1,16 @@
 """Which offers are bounded: their numbers, and the lengths of their lists."""
 
 from sureplace.given.names import is_name
-from sureplace.numbers.bounds import all_within, sides_within
+from sureplace.numbers.bounds import VAST, all_within, sides_within
 
-FAR = 10 ** 18
 MOST_MEMBERS = 100000
 
 
 def _step_bounded(step):
     """Tell whether the step of a tree is bounded."""
     if step[0] == "cut":
-        return 0 <= step[1] <= FAR and -FAR <= step[2] <= FAR
-    return step[0] in ("reading", "known", "kept") and 0 <= step[1] <= FAR
+        return 0 <= step[1] <= VAST and -VAST <= step[2] <= VAST
+    return step[0] in ("reading", "known", "kept") and 0 <= step[1] <= VAST
 
 
 def _tree_bounded(tree):
@@ -22,22 +21,22 @@ def _tree_bounded(tree):
 def _blame_bounded(step):
     """Tell whether the step of blame is bounded."""
     tree, following = step
-    return 0 <= tree <= FAR and len(following) <= MOST_MEMBERS and all_within(following, 0, FAR)
+    return 0 <= tree <= VAST and len(following) <= MOST_MEMBERS and all_within(following, 0, VAST)
 
 
 def _box_bounded(setting, box):
     """Tell whether the box of a cover is bounded."""
-    return len(box) == setting.dims + 1 and sides_within(box, FAR)
+    return len(box) == setting.dims + 1 and sides_within(box, VAST)
 
 
 def _point_bounded(setting, point):
     """Tell whether the point of a witness is bounded."""
-    return len(point) == setting.dims + 2 and all_within(point, -FAR, FAR)
+    return len(point) == setting.dims + 2 and all_within(point, -VAST, VAST)
 
 
 def thing_bounded(setting, thing):
     """Tell whether the known thing is bounded."""
-    return (-FAR <= thing.moment <= FAR and len(thing.cover) <= MOST_MEMBERS
+    return (-VAST <= thing.moment <= VAST and len(thing.cover) <= MOST_MEMBERS
             and all([_box_bounded(setting, box) for box in thing.cover]) and _tree_bounded(thing.tree))
 
 

@@ -26,8 +26,8 @@ class Cell:
 class Division:
     """The cells that are not cut, by their addresses. Together they are the root."""
 
-    def __init__(self):
-        self.uncut = {"": Cell("open")}
+    def __init__(self, uncut):
+        self.uncut = {address: cell for address, cell in uncut}
 
     def around(self, address):
         """The address of the cell, not cut, that is or contains the one at the address; None if this is cut."""

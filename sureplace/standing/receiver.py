@@ -24,9 +24,9 @@ class Write:
         return isinstance(other, Write) and self.number == other.number and self.fallen == other.fallen
 
 
-def _few_sources(readings):
-    """Tell whether there are not too many sources."""
-    return len(set([reading.source for reading in readings])) <= MOST_SOURCES
+def has_room(readings):
+    """Tell whether there are not too many readings, and not of too many sources."""
+    return len(readings) <= MOST_READINGS and len(set([reading.source for reading in readings])) <= MOST_SOURCES
 
 
 def _check_address(address):
@@ -77,7 +77,7 @@ class Receiver:
         """Add a reading; None if there is no room for it."""
         self._check_reading(reading)
         others = [other for number, other in self.there()]
-        if len(others) >= MOST_READINGS or not _few_sources(others + [reading]):
+        if not has_room(others + [reading]):
             return None
         return self._written(self.ledger.put(reading))
 
@@ -85,7 +85,7 @@ class Receiver:
         """Replace the reading with the number; None if it is not there now, or if there is no room."""
         self._check_reading(reading)
         others = [other for place, other in self.there() if place != number]
-        if not _few_sources(others + [reading]):
+        if not has_room(others + [reading]):
             return None
         write = self.ledger.correct(number, reading)
         return None if write is None else self._written(write)
@@ -174,3 +174,15 @@ class Receiver:
         """The witness of a cell that is in; None if there is no such cell."""
         watch = self._watch_at(number, address)
         return watch.witness(address)
+
+
+def revived(setting, ledger, following, watches):
+    """A receiver with this ledger and these watches, pairs of a number and a watch; all of them are judged again."""
+    receiver = Receiver(setting)
+    receiver.ledger = ledger
+    receiver._following = following
+    readings = receiver.there()
+    for number, watch in watches:
+        watch.turn(setting, readings)
+        receiver._watches[number] = watch
+    return receiver

@@ -20,7 +20,7 @@ class Watch:
     def __init__(self, question):
         self.question = question
         self._things = []
-        self._division = Division()
+        self._division = Division([("", Cell("open"))])
         # The bench that heard the things last, and by what it judges.
         self._bench = None
         self._given = None
@@ -141,3 +141,11 @@ class Watch:
         """The witness of a cell that is in; None if there is no such cell."""
         cell = self._cell(address, "in")
         return None if cell is None else cell.witness
+
+
+def watching(question, things, uncut):
+    """A watch with these known things and cells, pairs of an address and a cell, which nobody has judged yet."""
+    watch = Watch(question)
+    watch._things.extend(things)
+    watch._division = Division(uncut)
+    return watch

@@ -1,0 +1,1 @@
+"""How far the receiver can have been, and what is shown of a single source."""

@@ -1,0 +1,1 @@
+"""Texts: words of things, and receivers that are saved and loaded."""

@@ -1,0 +1,1 @@
+"""Tracks: layers of boxes, and chains through them."""
