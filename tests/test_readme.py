@@ -20,10 +20,10 @@ class Examples(unittest.TestCase):
                     continue
                 exec(before, names)
                 before = ""
-                due = re.match(r"\s*(True|False|-?\d+|\[.*\]|\(.*\))", told).group(1)
+                due = re.match(r"""\s*(True|False|-?\d+|".*"|\[.*\]|\(.*\))""", told).group(1)
                 self.assertEqual(eval(call, names), eval(due), line)
                 checked += 1
-        self.assertEqual(checked, 11)
+        self.assertEqual(checked, 17)
 
 
 if __name__ == "__main__":

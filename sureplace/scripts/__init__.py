@@ -1,0 +1,1 @@
+"""Scripts: deeds for a receiver, written as lines."""

@@ -1,0 +1,1 @@
+"""Tools that make papers of papers, describe them, and send them as texts."""
