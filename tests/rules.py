@@ -530,7 +530,77 @@ def check_attributes(file, package):
                 yield "L24", node.lineno, "a set"
 
 
-CHECKS = (check_text, check_imports, check_module, check_functions, check_classes, check_statements, check_names,
+def check_class_methods(file, package):
+    """L5: class and static methods have names of their own; cls is called, or asked for a class value."""
+    for node in file.of(ast.FunctionDef):
+        if not {"classmethod", "staticmethod"} & {name_of(decorator) for decorator in node.decorator_list}:
+            continue
+        if package.names.count(node.name) > 1 or node.name in package.attributes | METHODS:
+            yield "L5", node.lineno, f"something else is called {node.name}"
+        inside = [part for row in node.body for part in ast.walk(row)]
+        for part in inside:
+            if isinstance(part, (ast.Yield, ast.YieldFrom)) or name_of(part) == "super":
+                yield "L5", part.lineno, f"a yield or super in {node.name}"
+            if name_of(part) == "cls":
+                above = file.parent(part)
+                called = isinstance(above, ast.Call) and above.func is part
+                if not (called or isinstance(above, ast.Attribute)):
+                    yield "L5", part.lineno, "cls is passed on"
+                if any(isinstance(over, (ast.Lambda, ast.ListComp, ast.GeneratorExp, ast.DictComp, ast.SetComp))
+                       and part in list(ast.walk(over)) for over in inside):
+                    yield "L5", part.lineno, "cls is read by a lambda or a comprehension"
+
+
+def is_starred(node):
+    """Is it what may stand behind a star or beside it: a name, an attribute of a name, a literal, or such in a tuple?"""
+    if isinstance(node, (ast.Tuple, ast.List)):
+        return all(is_starred(part) for part in node.elts)
+    if isinstance(node, ast.Attribute):
+        return isinstance(node.value, ast.Name)
+    return isinstance(node, (ast.Name, ast.Constant))
+
+
+def check_stars_and_lambdas(file, package):
+    """L7: what stands behind a star in a call; L13: lambdas that look the same; L4: what they assign."""
+    for node in file.of(ast.Call):
+        stars = [place for place, part in enumerate(node.args) if isinstance(part, ast.Starred)]
+        if stars:
+            behind = [getattr(part, "value", part) if isinstance(part, ast.Starred) else part
+                      for part in node.args[stars[0]:]]
+            if not all(is_starred(part) for part in behind + [keyword.value for keyword in node.keywords]):
+                yield "L7", node.lineno, "an expression behind a star"
+            if isinstance(node.func, ast.Name) and node.func.id in BUILTINS - {"max", "min", "zip"}:
+                yield "L7", node.lineno, f"a star in a call of {node.func.id}"
+    seen = set()
+    for node in file.of(ast.Lambda):
+        names = (node.lineno,) + tuple(arg.arg for arg in node.args.args)
+        if names in seen:
+            yield "L13", node.lineno, "two lambdas that look the same"
+        seen.add(names)
+        if [part for part in ast.walk(node.body) if isinstance(part, ast.NamedExpr)]:
+            yield "L7", node.lineno, "a lambda that assigns"
+
+
+def check_tables(file, package):
+    """L15: functions only read a list or dict that stands at module level; functions in it are called by a name."""
+    tables = {node.targets[0].id for node in file.tree.body if isinstance(node, ast.Assign)
+              and isinstance(node.value, (ast.List, ast.Dict)) and isinstance(node.targets[0], ast.Name)}
+    for node in file.of(ast.Name):
+        if node.id not in tables or isinstance(node.ctx, ast.Store):
+            continue
+        above = file.parent(node)
+        over = file.parent(above)
+        read = isinstance(above, ast.Subscript) and isinstance(above.ctx, ast.Load) and above.value is node
+        if read and isinstance(over, ast.Call) and over.func is above:
+            yield "L3", node.lineno, f"what stands in {node.id} is called without a name"
+        looped = isinstance(above, (ast.For, ast.comprehension)) and above.iter is node
+        taken = isinstance(above, ast.Call) and name_of(above.func) in TAKERS and node in above.args
+        asked = isinstance(above, ast.Attribute) and above.attr in ("get", "items", "keys", "values", "index", "count")
+        if not (read or looped or taken or asked or isinstance(above, ast.Compare)):
+            yield "L15", node.lineno, f"{node.id} is not only read"
+
+
+CHECKS = (check_class_methods, check_stars_and_lambdas, check_tables, check_text, check_imports, check_module, check_functions, check_classes, check_statements, check_names,
           check_calls, check_errors, check_strings, check_generators, check_properties, check_attributes)
 
 

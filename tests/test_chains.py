@@ -184,6 +184,9 @@ class Marks(unittest.TestCase):
         layers = self.LAYERS[:2] + [Layer(5, (at(20, 2),))]
         self.assertIs(judge_barrier(SLOW, layers, ((0, 1), (0, 2, -2, 3), ())), True)
         self.assertIs(self.accepted((-1, -2), (0, 2), ()), False)
+        layers[1] = Layer(3, (at(3), at(8), at(20)))
+        self.assertIs(judge_barrier(SLOW, layers, ((0, 1), (0, 1, -1, 3), ())), True)
+        self.assertIs(judge_barrier(SLOW, layers, ((0, 1), (0, 1, 2), ())), False)
 
     def test_the_last_marks_are_empty(self):
         for last in ((0,), (1,), (-1,), (5,)):

@@ -188,6 +188,36 @@ class AnyWitnesses(unittest.TestCase):
             right, wrong = right + due, wrong + (not due)
         self.assertGreater(min(right, wrong), 100)
 
+    def test_any_points(self):
+        """Points to and fro, whose steps may be farther than one can go, each or all together."""
+        counts = {}
+        chance = dice(97)
+        for _ in range(6000):
+            dims = chance.choice((2, 3))
+            setting = a_setting(dims, speed=chance.randint(0, 4), drift=chance.randint(0, 3), per=chance.randint(1, 3))
+            question = a_question(0, ((-99, 99),) * (dims + 1), share=chance.randint(1, 4))
+            moments = sorted(chance.sample(range(-12, 12), chance.randint(2, 6)))
+            points, place = [], (0,) * (dims + 1)
+            by = chance.randint(1, 9)
+            for moment in moments:
+                points.append((moment,) + place)
+                place = tuple(number + chance.randint(-by, by) for number in place)
+            due = by_hand(setting, question, [], Witness((), tuple(points)), question.root)
+            self.assertIs(judge_witness(setting, question, [], Witness((), tuple(points)), question.root), due)
+            steps = list(zip(points, points[1:]))
+            together = self.excess(setting, steps) <= setting.per * stretch(setting, question, [])
+            counts[due, together] = counts.get((due, together), 0) + 1
+        self.assertEqual(set(counts), {(True, True), (True, False), (False, False)})
+        self.assertGreater(min(counts.values()), 500, counts)
+
+    def excess(self, setting, steps):
+        """By how much the steps are, all together, farther than one can go, in units of 1 / per."""
+        far = sum(max(0, setting.per * sum((a - b) ** 2 for a, b in zip(one[1:-1], two[1:-1])) ** 0.5
+                      - setting.speed * (two[0] - one[0])) for one, two in steps)
+        off = sum(max(0, setting.per * abs(one[-1] - two[-1]) - setting.drift * (two[0] - one[0]))
+                  for one, two in steps)
+        return max(far, off)
+
     def test_the_way_keeps_condition_3_between_any_two_times(self):
         accepted = 0
         for chance, setting, question, readings, witness in self.some(96, 500):

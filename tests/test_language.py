@@ -12,6 +12,8 @@ EQUAL = CLASS + "    def __eq__(self, other):\n        return isinstance(other, 
 
 MANY = "def each(xs):\n    for x in xs:\n        yield x\n\n\n"
 SHELF = "class Shelf:\n    def __init__(self):\n        self.rows = []\n\n"
+MADE = CLASS + "\n    @classmethod\n    def made(cls, n):\n"
+TABLE = "def f(x):\n    return x\n\n\nTABLE = {'f': f}\n\n\n"
 
 BAD = (
     ("L2", "import math\n"),
@@ -97,6 +99,17 @@ BAD = (
     ("L18", "def f(x):\n    return x.nothing\n"),
     ("L24", "def f(xs):\n    return set(xs)\n"),
     ("L24", "def f(xs):\n    for x in set(xs):\n        return x\n"),
+    ("L5", MADE + "        return [cls(m) for m in n]\n"),
+    ("L5", MADE + "        return [cls, n]\n"),
+    ("L5", MADE + "        yield n\n"),
+    ("L5", MADE + "        return cls(n)\n\n\ndef made(n):\n    return n\n"),
+    ("L7", "def f(g, xs):\n    return g(*xs[1:])\n"),
+    ("L7", "def f(xs):\n    return sum(*xs)\n"),
+    ("L13", "def f(g):\n    return g(lambda x: x, lambda x: -x)\n"),
+    ("L3", TABLE + "def g(x):\n    return TABLE['f'](x)\n"),
+    ("L15", TABLE + "def g(x):\n    TABLE[x] = 1\n"),
+    ("L15", TABLE + "def g(x):\n    return [TABLE, x]\n"),
+    ("L15", TABLE + "def g(x):\n    TABLE.update(x)\n"),
 )
 
 GOOD = (
@@ -106,6 +119,8 @@ GOOD = (
     MANY + "def f(xs):\n    for x in each(xs):\n        return [y for y in each(xs)] + list(each(xs))\n",
     SHELF + "    def __iter__(self):\n        return iter(self.rows)\n\n    @property\n    def many(self):\n"
     "        return len(set(self.rows))\n",
+    MADE + "        box = cls(n)\n        box.n = n\n        return box\n",
+    TABLE + "def g(word, xs):\n    first, *rest = xs\n    action = TABLE[word]\n    return action(*rest), sorted(TABLE)\n",
 )
 
 

@@ -78,7 +78,7 @@ class Pruned(unittest.TestCase):
     def test_what_is_not_one_tree_stays(self):
         part = x_from(0, 1)
         for tree in ((), (("cut", 0, 4),), (("cut", 0, 4), FIRST), (("cut", 0, 4), FIRST, SECOND, THIRD),
-                     (FIRST, SECOND), (FIRST, ("cut", 0, 4), SECOND, THIRD),
+                     (FIRST, SECOND), (FIRST, ("cut", 0, 4), SECOND, THIRD), (FIRST, ("cut", 0, 4), SECOND),
                      (("cut", 0, 4), ("cut", 3, 4), FIRST, SECOND, THIRD), (("cut", -1, 4), FIRST, SECOND),
                      (("cut", 0, 4), FIRST, ("cut", 3, 4), SECOND, THIRD)):
             self.assertEqual(pruned(tree, LINE, part), tree)
@@ -173,6 +173,9 @@ class Restricted(Case):
         self.assertIsNone(self.restricted(paper, x_from(0, 2), liars=1))
         told = self.restricted(paper, x_from(0, 2), liars=1, honest=("c",))
         self.assertEqual(told, Paper((), by(4, 3), TWO))
+        paper = Paper((), by(3), ONE)
+        self.assertIsNone(self.restricted(paper, x_from(0, 2), liars=1))
+        self.assertEqual(self.restricted(paper, x_from(0, 2), liars=1, honest=("a", "c")), paper)
 
     def test_a_piece_can_be_lost(self):
         # The middle of the part lies farther from the middle of the box than the radius tells.

@@ -3,21 +3,40 @@
 from sureplace.given.questions import asked
 from sureplace.kinds.spans import span
 from sureplace.numbers.boxes import inside
+from sureplace.numbers.roots import root_up
 from sureplace.witness.ways import ascend, way_at
 from sureplace.witness.widening import margin, stretch
+
+
+def _apart(setting, point, later):
+    """In units of 1 / per, how far apart the points are: the square for the places, and for the clocks."""
+    squares = sum([(number - other) ** 2 for number, other in zip(point[1:-1], later[1:-1])])
+    return setting.per ** 2 * squares, setting.per * abs(point[-1] - later[-1])
 
 
 def _can_go(setting, slack, point, later):
     """Tell whether one can go from the point to the later one, but for the slack in units of 1 / per."""
     ticks = later[0] - point[0]
-    squares = sum([(number - other) ** 2 for number, other in zip(point[1:-1], later[1:-1])])
-    if setting.per ** 2 * squares > (setting.speed * ticks + slack) ** 2:
-        return False
-    return setting.per * abs(point[-1] - later[-1]) <= setting.drift * ticks + slack
+    squares, clocks = _apart(setting, point, later)
+    return squares <= (setting.speed * ticks + slack) ** 2 and clocks <= setting.drift * ticks + slack
+
+
+def _steps_within(setting, slack, points):
+    """Tell whether the steps from each point to the next one are, all together, within the slack."""
+    far, off = 0, 0
+    for point, later in zip(points, points[1:]):
+        ticks = later[0] - point[0]
+        squares, clocks = _apart(setting, point, later)
+        far += max(0, root_up(squares) - setting.speed * ticks)
+        off += max(0, clocks - setting.drift * ticks)
+    return far <= slack and off <= slack
 
 
 def _can_go_all(setting, slack, points):
     """Tell whether one can go from each point to each later one, but for the slack."""
+    # No two points are farther apart than the steps between them; there can be very many pairs.
+    if _steps_within(setting, slack, points):
+        return True
     for place, point in enumerate(points):
         for later in points[place + 1:]:
             if not _can_go(setting, slack, point, later):
