@@ -35,6 +35,11 @@ def a_reading(source="a", moment=0, kind=("range", (0, 0)), *, low=0, high=10, l
     return Reading(source, moment, kind, low=low, high=high, late=late, near=near)
 
 
+def says_x(source, low, high, moment=0):
+    """A reading that the first number of the place is from low to high."""
+    return a_reading(source, moment, ("side", (1, 0)), low=low, high=high)
+
+
 def a_question(moment=0, root=((0, 8), (0, 8), (0, 0)), *, liars=1, share=1, earliest=-10, latest=10):
     return Question(moment, root, liars=liars, share=share, earliest=earliest, latest=latest)
 

@@ -10,17 +10,12 @@ from sureplace.motion.going import farther
 from sureplace.numbers.boxes import cut, halves, is_small, widest
 from sureplace.search.covers import Row, know
 from sureplace.search.plans import Plan
-from tests.helpers import a_question, a_reading, a_setting, dice
+from tests.helpers import a_question, a_reading, a_setting, dice, says_x
 from tests.worlds import SOURCES, a_case
 
 STILL = a_setting(speed=0, drift=0, per=1)
 SLOW = a_setting(speed=1, drift=0, per=1)
 LINE = ((0, 8), (0, 0), (0, 0))
-
-
-def says_x(source, low, high, moment=0):
-    """A reading that the first number of the place is from low to high."""
-    return a_reading(source, moment, ("side", (1, 0)), low=low, high=high)
 
 
 def x_from(low, high):

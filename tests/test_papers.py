@@ -9,18 +9,13 @@ from sureplace.judge.trees import Held, judge_tree
 from sureplace.motion.going import widened
 from sureplace.search.plans import Plan
 from sureplace.search.searching import search
-from tests.helpers import a_question, a_reading, a_setting, dice
+from tests.helpers import a_question, a_reading, a_setting, dice, says_x
 from tests.worlds import SOURCES, a_case, holds
 
 STILL = a_setting(speed=0, drift=0, per=1)
 SLOW = a_setting(speed=1, drift=0, per=1)
 ROOT = ((0, 8), (0, 8), (0, 0))
 KEEP = (("kept", 0),)
-
-
-def says_x(source, low, high, moment=0):
-    """A reading that the first number of the place is from low to high."""
-    return a_reading(source, moment, ("side", (1, 0)), low=low, high=high)
 
 
 def x_from(low, high):

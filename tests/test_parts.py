@@ -7,7 +7,7 @@ from sureplace.judge.papers import Known, Paper, judge_known, judge_paper, used_
 from sureplace.liars.makers import make_paper
 from sureplace.numbers.boxes import cut, halves
 from sureplace.tools.parts import joined, pruned, remade, restricted
-from tests.helpers import a_box, a_question, a_reading, a_setting, dice
+from tests.helpers import a_box, a_question, a_reading, a_setting, dice, says_x
 from tests.some_papers import Found, a_part, any_tree, finer, with_kinds
 
 STILL = a_setting(speed=0, drift=0, per=1)
@@ -15,11 +15,6 @@ LINE = ((0, 8), (0, 0), (0, 0))
 KEEP = (("kept", 0),)
 ONE = ((0, ()),)
 TWO = ((0, (1,)), (1, ()))
-
-
-def says_x(source, low, high, moment=0):
-    """A reading that the first number of the place is from low to high."""
-    return a_reading(source, moment, ("side", (1, 0)), low=low, high=high)
 
 
 def x_from(low, high):

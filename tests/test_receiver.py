@@ -15,7 +15,8 @@ from sureplace.standing.receiver import Receiver, Write
 from sureplace.standing.watch import Watch
 from sureplace.witness.judging import judge_witness
 from sureplace.witness.ways import Witness
-from tests.helpers import a_question, a_reading, a_setting, dice, raised
+from tests.busy import moved
+from tests.helpers import a_question, a_reading, a_setting, dice, raised, says_x
 from tests.promises import check_found
 from tests.worlds import SOURCES, a_true_reading, a_world, holds, make_up, some_liars
 
@@ -23,11 +24,6 @@ STILL = a_setting(speed=0, drift=0, per=1)
 LINE = ((0, 8), (0, 0), (0, 0))
 KEEP = (("kept", 0),)
 ONE = ((0, ()),)
-
-
-def says_x(source, low, high, moment=0):
-    """A reading that the first number of the place is from low to high."""
-    return a_reading(source, moment, ("side", (1, 0)), low=low, high=high)
 
 
 def at(x):
@@ -508,11 +504,6 @@ class WholeRuns(unittest.TestCase):
         for what in (("learn", True), ("refute", True), ("refute", False), ("reach", True), ("reach", False),
                      ("fallen", True), ("write", True)):
             self.assertGreater(self.counts.get(what, 0), 15, self.counts)
-
-
-def moved(tree, by):
-    """The tree, with places of known things that are greater by a number."""
-    return tuple((step[0], step[1] + by) if step[0] == "known" else step for step in tree)
 
 
 if __name__ == "__main__":

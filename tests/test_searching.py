@@ -16,7 +16,7 @@ from sureplace.search.searching import Found, Told, search
 from sureplace.search.trying import tried
 from sureplace.witness.judging import judge_witness
 from sureplace.witness.ways import Witness
-from tests.helpers import a_question, a_reading, a_setting, dice, raised
+from tests.helpers import a_question, a_setting, dice, raised, says_x
 from tests.promises import check_found
 from tests.worlds import SOURCES, a_case, make_up
 
@@ -24,11 +24,6 @@ STILL = a_setting(speed=0, drift=0, per=1)
 SLOW = a_setting(speed=1, drift=0, per=1)
 LINE = ((0, 8), (0, 0), (0, 0))
 NO_PLAN = Plan((), grain=1, most=1, without=())
-
-
-def says_x(source, low, high, moment=0):
-    """A reading that the first number of the place is from low to high."""
-    return a_reading(source, moment, ("side", (1, 0)), low=low, high=high)
 
 
 def x_from(low, high):

@@ -9,18 +9,13 @@ from sureplace.liars.makers import make_paper
 from sureplace.search.covers import know
 from sureplace.search.plans import Plan
 from sureplace.witness.ways import Witness
-from tests.helpers import a_question, a_reading, a_setting, dice
+from tests.helpers import a_question, a_setting, dice, says_x
 from tests.worlds import SOURCES, a_plain_reading, a_true_reading, a_world, some_liars
 
 STILL = a_setting(speed=0, drift=0, per=1)
 LINE = ((0, 8), (0, 0), (0, 0))
 ONE = ((0, ()),)
 FIELDS = ("must", "cannot", "lies", "tells")
-
-
-def says_x(source, low, high, moment=0):
-    """A reading that the first number of the place is from low to high."""
-    return a_reading(source, moment, ("side", (1, 0)), low=low, high=high)
 
 
 def at(x, *liars):

@@ -5,7 +5,7 @@ import unittest
 
 from sureplace.judge.papers import Known, Paper, judge_known, judge_paper, used_by
 from sureplace.tools.tidying import rests_on, tidy
-from tests.helpers import a_question, a_reading, a_setting
+from tests.helpers import a_question, a_setting, says_x
 from tests.some_papers import Found
 
 STILL = a_setting(speed=0, drift=0, per=1)
@@ -13,11 +13,6 @@ LINE = ((0, 8), (0, 0), (0, 0))
 KEEP = (("kept", 0),)
 ONE = ((0, ()),)
 PLAIN = Known(0, (LINE,), KEEP)
-
-
-def says_x(source, low, high, moment=0):
-    """A reading that the first number of the place is from low to high."""
-    return a_reading(source, moment, ("side", (1, 0)), low=low, high=high)
 
 
 # Each of them excludes the line, but for d.

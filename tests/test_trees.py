@@ -7,7 +7,7 @@ from sureplace.judge.trees import Held, judge_tree
 from sureplace.kinds.exclusion import excludes
 from sureplace.motion.going import farther
 from sureplace.numbers.boxes import cut, inside
-from tests.helpers import a_box, a_reading, a_setting, dice, places_of
+from tests.helpers import a_box, a_setting, dice, places_of, says_x
 
 STILL = a_setting(speed=0, drift=0, per=1)
 BOX = ((0, 8), (0, 8), (0, 0))
@@ -16,11 +16,6 @@ BOX = ((0, 8), (0, 8), (0, 0))
 def at_x(x):
     """The box of the places with this first number."""
     return ((x, x), (0, 8), (0, 0))
-
-
-def says_x(source, low, high, moment=0):
-    """A reading that the first number of the place is from low to high."""
-    return a_reading(source, moment, ("side", (1, 0)), low=low, high=high)
 
 
 def judged(tree, *, box=BOX, readings=(), held=(), keep=(), moment=0, setting=STILL):

@@ -8,7 +8,7 @@ from sureplace.judge.papers import Known, Paper
 from sureplace.standing.bounded import witness_bounded
 from sureplace.standing.watch import Watch
 from sureplace.witness.ways import Witness
-from tests.helpers import a_question, a_reading, a_setting
+from tests.helpers import a_question, a_setting, says_x
 
 STILL = a_setting(speed=0, drift=0, per=1)
 FAST = a_setting(speed=10 ** 12, drift=10 ** 12, per=1)
@@ -16,11 +16,6 @@ LINE = ((0, 8), (0, 0), (0, 0))
 KEEP = (("kept", 0),)
 ONE = ((0, ()),)
 FAR = 10 ** 18
-
-
-def says_x(source, low, high, moment=0):
-    """A reading that the first number of the place is from low to high."""
-    return a_reading(source, moment, ("side", (1, 0)), low=low, high=high)
 
 
 def x_from(low, high):

@@ -32,6 +32,12 @@ def _new_places(kept):
     return {old: new for new, old in enumerate(kept)}
 
 
+def _with_numbers(step, new_tree, new_step):
+    """The step of blame, with new numbers of its tree and of its next steps."""
+    tree, following = step
+    return new_tree[tree], tuple([new_step[number] for number in following])
+
+
 def tidy(setting, question, readings, paper, box, *, honest=()):
     """The paper without what it does not need; None if it is not accepted for the box."""
     if not judge_paper(setting, question, readings, paper, box, honest=honest):
@@ -39,15 +45,11 @@ def tidy(setting, question, readings, paper, box, *, honest=()):
     steps = _needed_steps(paper.steps)
     trees = sorted(set([paper.steps[number][0] for number in steps]))
     known = _needed_known(paper.known, [paper.trees[tree] for tree in trees])
-    new_step, new_tree, new_known = _new_places(steps), _new_places(trees), _new_places(known)
-    blame = []
-    for number in steps:
-        tree, following = paper.steps[number]
-        blame.append((new_tree[tree], tuple([new_step[step] for step in following])))
-    return Paper(
-        tuple([thing_with_places(paper.known[place], lambda old: new_known[old]) for place in known]),
-        tuple([tree_with_places(paper.trees[tree], lambda old: new_known[old]) for tree in trees]),
-        tuple(blame))
+    new_step, new_tree, new_place = _new_places(steps), _new_places(trees), _new_places(known)
+    things = [thing_with_places(paper.known[place], lambda old: new_place[old]) for place in known]
+    kept = [tree_with_places(paper.trees[tree], lambda old: new_place[old]) for tree in trees]
+    blame = [_with_numbers(paper.steps[number], new_tree, new_step) for number in steps]
+    return Paper(tuple(things), tuple(kept), tuple(blame))
 
 
 def rests_on(setting, question, readings, paper, box, *, honest=()):
